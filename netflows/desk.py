@@ -1,12 +1,19 @@
 """The desk: takes the calls on one new net as a list of numbers and gives back what they answer."""
 
-from netflows.flows import greatest_value, smallest_cut
+from netflows.cheapest import least_cost
+from netflows.checks import is_flow, prices_go_with
+from netflows.flows import cost_of, greatest_value, smallest_cut, value_of
 from netflows.net import Net, REFUSED, are_two_nodes
 
 ARC = 1
 DROP = 2
 MOST = 3
 CUT = 4
+CHEAPEST = 5
+FLOW = 6
+PROVES = 7
+
+NO_SUCH_FLOW = -2
 
 
 class Reader:
@@ -23,6 +30,13 @@ class Reader:
         number = self.numbers[self.place]
         self.place = self.place + 1
         return number
+
+    def take_row(self):
+        """The numbers of a row, which has how many they are before it."""
+        length = self.take()
+        row = self.numbers[self.place:self.place + length]
+        self.place = self.place + length
+        return row
 
 
 def answers(calls):
@@ -48,7 +62,13 @@ def answer_next(net, reader):
         return answer_most(net, reader)
     if call == CUT:
         return answer_cut(net, reader)
-    raise NotImplementedError(f"call {call}")
+    if call == CHEAPEST:
+        return answer_cheapest(net, reader)
+    if call == FLOW:
+        return answer_flow(net, reader)
+    if call == PROVES:
+        return answer_proves(net, reader)
+    raise ValueError(f"no call has the number {call}")
 
 
 def answer_arc(net, reader):
@@ -73,3 +93,36 @@ def answer_cut(net, reader):
     if not are_two_nodes(s, t):
         return [REFUSED]
     return [0, smallest_cut(net.arcs, s, t)]
+
+
+def answer_cheapest(net, reader):
+    s = reader.take()
+    t = reader.take()
+    value = reader.take()
+    if not are_two_nodes(s, t) or value < 0:
+        return [REFUSED]
+    if value > greatest_value(net.arcs, s, t):
+        return [NO_SUCH_FLOW]
+    return [0, least_cost(net.arcs, s, t, value)]
+
+
+def answer_flow(net, reader):
+    s = reader.take()
+    t = reader.take()
+    amounts = reader.take_row()
+    if not are_two_nodes(s, t):
+        return [REFUSED]
+    if not is_flow(net.arcs, amounts, s, t):
+        return [0]
+    return [1, value_of(net.arcs, amounts, s), cost_of(net.arcs, amounts)]
+
+
+def answer_proves(net, reader):
+    s = reader.take()
+    t = reader.take()
+    amounts = reader.take_row()
+    prices = reader.take_row()
+    if not are_two_nodes(s, t):
+        return [REFUSED]
+    proven = is_flow(net.arcs, amounts, s, t) and prices_go_with(net.arcs, amounts, prices, s)
+    return [1 if proven else 0]

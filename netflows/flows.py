@@ -1,4 +1,4 @@
-"""The greatest flow from one node to another, and the smallest set of nodes that cuts it off.
+"""Flows with their value and cost, the greatest one, and the smallest set of nodes that cuts it off.
 
 A flow is a list of amounts, one for each arc, in the arcs' order.
 """
@@ -20,15 +20,19 @@ def smallest_cut(arcs, s, t):
     return bits
 
 
-def value_of(arcs, amounts, s):
-    """What goes out of s less what comes in."""
+def value_of(arcs, amounts, node):
+    """What goes out of the node less what comes in."""
     value = 0
     for arc, amount in zip(arcs, amounts):
-        if arc.origin == s:
+        if arc.origin == node:
             value = value + amount
-        if arc.goal == s:
+        if arc.goal == node:
             value = value - amount
     return value
+
+
+def cost_of(arcs, amounts):
+    return sum([amount * arc.cost for arc, amount in zip(arcs, amounts)])
 
 
 def greatest_flow(arcs, s, t):
@@ -36,7 +40,8 @@ def greatest_flow(arcs, s, t):
     amounts = [0 for arc in arcs]
     ways = ways_from(arcs, amounts, s)
     while t in ways:
-        amounts = sent_along(arcs, amounts, steps_to(arcs, ways, t))
+        steps = steps_to(arcs, ways, t)
+        amounts = sent_along(amounts, steps, room_along(arcs, amounts, steps))
         ways = ways_from(arcs, amounts, s)
     return amounts
 
@@ -83,14 +88,18 @@ def steps_to(arcs, ways, t):
     return steps
 
 
-def sent_along(arcs, amounts, steps):
-    """The amounts after as much as these steps have room for is sent along them."""
-    more = min([room(arcs[number], amounts[number], forwards) for number, forwards in steps])
-    changed = list(amounts)
-    for number, forwards in steps:
-        changed[number] = changed[number] + (more if forwards else -more)
-    return changed
+def room_along(arcs, amounts, steps):
+    """How much more can be sent along all of these steps."""
+    return min([room(arcs[number], amounts[number], forwards) for number, forwards in steps])
 
 
 def room(arc, amount, forwards):
     return arc.capacity - amount if forwards else amount
+
+
+def sent_along(amounts, steps, more):
+    """The amounts after so much more is sent along these steps."""
+    changed = list(amounts)
+    for number, forwards in steps:
+        changed[number] = changed[number] + (more if forwards else -more)
+    return changed

@@ -32,6 +32,18 @@ def cut(s, t):
     return [4, s, t]
 
 
+def cheapest(s, t, amount):
+    return [5, s, t, amount]
+
+
+def flow(s, t, amounts):
+    return [6, s, t, len(amounts), *amounts]
+
+
+def proves(s, t, amounts, prices):
+    return [7, s, t, len(amounts), *amounts, len(prices), *prices]
+
+
 def bits(*nodes):
     return sum(1 << node for node in nodes)
 
@@ -59,14 +71,42 @@ def value(arcs, amounts, node):
     return goes_out - comes_in
 
 
-def most_by_trying_amounts(arcs, s, t):
-    """The greatest value over every list of amounts that is a flow; arcs are (origin, goal, capacity)."""
+def cost(arcs, amounts):
+    """The sum of all amounts times their arcs' costs; arcs are (origin, goal, capacity, cost)."""
+    return sum(amount * a[3] for a, amount in zip(arcs, amounts))
+
+
+def every_list_of_amounts(arcs):
+    return product(*[range(a[2] + 1) for a in arcs])
+
+
+def every_flow(arcs, s, t):
+    """Every list of amounts that is a flow; arcs are (origin, goal, capacity, ...)."""
     between = {node for a in arcs for node in a[:2]} - {s, t}
-    return max(
-        value(arcs, amounts, s)
-        for amounts in product(*[range(a[2] + 1) for a in arcs])
-        if all(value(arcs, amounts, node) == 0 for node in between)
-    )
+    for amounts in every_list_of_amounts(arcs):
+        if all(value(arcs, amounts, node) == 0 for node in between):
+            yield amounts
+
+
+def most_by_trying_amounts(arcs, s, t):
+    """The greatest value over every list of amounts that is a flow."""
+    return max(value(arcs, amounts, s) for amounts in every_flow(arcs, s, t))
+
+
+def least_costs_by_trying_amounts(arcs, s, t):
+    """For each value that a flow has, the least cost over every list of amounts that is a flow of it."""
+    least = {}
+    for amounts in every_flow(arcs, s, t):
+        reached = value(arcs, amounts, s)
+        least[reached] = min(cost(arcs, amounts), least.get(reached, cost(arcs, amounts)))
+    return least
+
+
+def mixed_net(chance, nodes, count, capacity, unit_cost):
+    """Arcs between chance pairs of these nodes, with capacities and costs up to the ones told."""
+    return [
+        (*chance.sample(nodes, 2), chance.randint(0, capacity), chance.randint(-unit_cost, unit_cost))
+        for number in range(count)]
 
 
 def cut_by_trying_sets(arcs, s, t):
